@@ -104,3 +104,152 @@ func TestSameCallsAgree(t *testing.T) {
 		want(t, "again", starCalls(s, 3, 29), first...)
 	}
 }
+
+// chordCalls returns the results of all calls of chapter 2 with a list and the same numbers.
+func chordCalls(points int, list []impl.Chord, k int) []any {
+	calls := [][]any{
+		all(impl.AreChords(points, list)), all(impl.CrossingPairs(points, list)), all(impl.CountPairsCrossing(points, list)),
+		all(impl.MostCrossed(points, list)), all(impl.IsPlane(points, list)), all(impl.CrossingGroups(points, list)),
+		all(impl.SidesOfChords(points, list)), all(impl.FewestDrops(points, list)), all(impl.ChordLengths(points, list)),
+		all(impl.TurnChords(points, list, k)), all(impl.MirrorChords(points, list)), all(impl.AddChord(points, list, impl.Chord{A: k, B: points})),
+		all(impl.AddChord(points, list, impl.Chord{A: 1, B: k})), all(impl.DropChord(points, list, k)), all(impl.IsPairing(points, list)),
+		all(impl.CountPairings(points, k)), all(impl.CountPlanePairings(points)), all(impl.PlanePairingOfRank(points, k)),
+		all(impl.RankOfPlanePairing(points, list)), all(impl.ChordsText(list)),
+	}
+	return slices.Concat(calls...)
+}
+
+// anyLists returns lists of chords, sets and others.
+func anyLists() [][]impl.Chord {
+	lists := append(noSets(), nil, allChords(60)[:40], allChords(60)[:41], allChords(60), halves(30), rowOfChords(12), rowOfChords(13), chords(0, 1, 2, 3))
+	for _, a := range edgeNumbers {
+		for _, b := range edgeNumbers {
+			lists = append(lists, chords(a, b), chords(0, 1, a, b))
+		}
+	}
+	return lists
+}
+
+func TestChordsAcceptAllArguments(t *testing.T) {
+	for _, points := range []int{edgeNumbers[0], -1, 0, 2, 3, 4, 5, 12, 13, 14, 30, 31, 32, 60, 61, edgeNumbers[len(edgeNumbers)-1]} {
+		for _, list := range anyLists() {
+			for _, k := range []int{edgeNumbers[0], -1, 0, 1, 3, 59, 60, 100, 101, edgeNumbers[len(edgeNumbers)-1]} {
+				checkZero(t, chordCalls(points, list, k))
+			}
+		}
+	}
+}
+
+func TestChordsTextsAcceptAllBytes(t *testing.T) {
+	const text = "0-2,1-3"
+	for b := range 256 {
+		for i := range len(text) + 1 {
+			for _, told := range []string{text[:i] + string([]byte{byte(b)}) + text[i:], text[:max(i-1, 0)] + string([]byte{byte(b)}) + text[i:]} {
+				list, ok := impl.ParseChords(told)
+				if back, fine := impl.ChordsText(list); ok && (!fine || back != told) || !ok && len(list) != 0 {
+					t.Errorf("%q is %v, %v", told, list, ok)
+				}
+			}
+		}
+	}
+}
+
+// withRoom returns a list with spare capacity behind it that holds chords, and all of it.
+func withRoom(list []impl.Chord) ([]impl.Chord, []impl.Chord) {
+	whole := append(slices.Clone(list), chords(7, 8, 8, 9, 3, 1)...)
+	return whole[:len(list)], whole
+}
+
+func TestChordArgumentsStay(t *testing.T) {
+	for _, told := range [][]impl.Chord{nil, chords(0, 2, 1, 3, 2, 5), chords(0, 3, 1, 2, 4, 5), halves(30), rowOfChords(39), rowOfChords(40), chords(0, 2, 0, 1)} {
+		list, whole := withRoom(told)
+		before := slices.Clone(whole)
+		for _, points := range []int{2, 6, 10, 60} {
+			for k := -1; k <= 60; k++ {
+				want(t, "with room", chordCalls(points, list, k), chordCalls(points, told, k)...)
+			}
+		}
+		if !slices.Equal(whole, before) {
+			t.Error("a call changes its list", before, whole)
+		}
+	}
+}
+
+// spoil changes each chord of a list and of its spare capacity.
+func spoil(list []impl.Chord, ok bool) {
+	list = list[:cap(list)]
+	for i := range list {
+		list[i] = impl.Chord{A: -1, B: -1}
+	}
+}
+
+func TestChordResultsAreNew(t *testing.T) {
+	told := chords(0, 3, 1, 2, 4, 5)
+	list, whole := withRoom(told)
+	before := slices.Clone(whole)
+	for range 2 {
+		want(t, "turn", all(impl.TurnChords(6, list, 0)), told, true)
+		spoil(impl.TurnChords(6, list, 0))
+		want(t, "mirror", all(impl.MirrorChords(6, list)), chords(0, 3, 1, 2, 4, 5), true)
+		spoil(impl.MirrorChords(6, list))
+		spoil(impl.AddChord(6, list, impl.Chord{A: 4, B: 5}))
+		spoil(impl.AddChord(6, list, impl.Chord{A: 3, B: 5}))
+		spoil(impl.AddChord(7, list, impl.Chord{A: 5, B: 6}))
+		spoil(impl.DropChord(6, list, 0))
+		spoil(impl.DropChord(6, list, 2))
+		want(t, "rank", all(impl.PlanePairingOfRank(6, 2)), told, true)
+		spoil(impl.PlanePairingOfRank(6, 2))
+		want(t, "parse", all(impl.ParseChords("0-3,1-2,4-5")), told, true)
+		spoil(impl.ParseChords("0-3,1-2,4-5"))
+		if !slices.Equal(whole, before) {
+			t.Error("a result shares memory with its list", whole)
+		}
+	}
+}
+
+// checkApart checks that no two lists of a result share memory.
+func checkApart(t *testing.T, lists [][]int) {
+	t.Helper()
+	told := make([][]int, len(lists))
+	for i := range lists {
+		told[i] = slices.Clone(lists[i])
+	}
+	for i := range lists {
+		whole := lists[i][:cap(lists[i])]
+		for k := range whole {
+			whole[k] = -1
+		}
+		for j := i + 1; j < len(lists); j++ {
+			if !slices.Equal(lists[j], told[j]) {
+				t.Error("lists share memory", told)
+			}
+		}
+	}
+}
+
+func TestChordListsAreApart(t *testing.T) {
+	list := chords(0, 2, 0, 4, 1, 3, 2, 5, 6, 8, 7, 9)
+	for range 2 {
+		pairs, ok := impl.CrossingPairs(10, list)
+		want(t, "pairs", all(pairs, ok), plainPairs(10, list), true)
+		checkApart(t, pairs)
+		groups, ok := impl.CrossingGroups(10, list)
+		want(t, "groups", all(groups, ok), [][]int{{0, 1, 2, 3}, {4, 5}}, true)
+		checkApart(t, groups)
+		drops, ok := impl.FewestDrops(10, list)
+		want(t, "drops", all(drops, ok), plainDrops(6, plainPairs(10, list)), true)
+		drops[0] = -1
+		lengths, ok := impl.ChordLengths(10, list)
+		want(t, "lengths", all(lengths, ok), []int{2, 4, 2, 3, 2, 2}, true)
+		lengths[0] = -1
+	}
+}
+
+func TestSameChordCallsAgree(t *testing.T) {
+	for _, list := range [][]impl.Chord{rowOfChords(12), halves(12), chords(0, 3, 1, 2, 4, 5), allChords(9)} {
+		first := chordCalls(60, list, 3)
+		for range 20 {
+			want(t, "again", chordCalls(60, list, 3), first...)
+		}
+	}
+}
