@@ -2,9 +2,11 @@ package tests
 
 import (
 	"reflect"
+	"runtime"
 	"slices"
 	"strings"
 	"testing"
+	"unsafe"
 
 	"loop.example/g01324/impl"
 )
@@ -250,6 +252,113 @@ func TestSameChordCallsAgree(t *testing.T) {
 		first := chordCalls(60, list, 3)
 		for range 20 {
 			want(t, "again", chordCalls(60, list, 3), first...)
+		}
+	}
+}
+
+// pathCalls returns the results of all calls of chapter 3 with a word and the same numbers.
+func pathCalls(grid int, w string, p int, q int) []any {
+	calls := [][]any{
+		all(impl.IsWord(grid, w)), all(impl.PathOf(grid, w)), all(impl.EndOf(grid, w)), all(impl.IsClosed(grid, w)), all(impl.RepeatsToClose(grid, w)),
+		all(impl.RepeatWord(grid, w, p)), all(impl.TurnsMade(grid, w)), all(impl.CrossedPoints(grid, w)), all(impl.DoubleArea(grid, w)),
+		all(impl.MirrorWord(grid, w)), all(impl.BackWord(grid, w)), all(impl.ShiftWord(grid, w, p)), all(impl.LeastShift(grid, w)),
+		all(impl.SpiralWord(grid, p, q)), all(impl.SpiralRepeats(grid, p, q)), all(impl.CountClosed(grid, p)), all(impl.ShortWord(grid, w)),
+	}
+	return slices.Concat(calls...)
+}
+
+func TestPathsAcceptAllArguments(t *testing.T) {
+	words := append(noWords(), "", "F", "LR", "FL", "FLFLFLFL", strings.Repeat("F", 119)+"L", strings.Repeat("FRL", 40))
+	for _, grid := range edgeNumbers {
+		for _, w := range words {
+			for _, p := range edgeNumbers {
+				checkZero(t, pathCalls(grid, w, p, 1))
+			}
+		}
+		for _, p := range edgeNumbers {
+			for _, q := range edgeNumbers {
+				checkZero(t, pathCalls(grid, "FL", p, q))
+			}
+		}
+	}
+}
+
+func TestWordsAcceptAllBytes(t *testing.T) {
+	const text = "FLRF"
+	for b := range 256 {
+		isSign := b == 'F' || b == 'L' || b == 'R'
+		for i := range len(text) + 1 {
+			for _, told := range []string{text[:i] + string([]byte{byte(b)}) + text[i:], text[:max(i-1, 0)] + string([]byte{byte(b)}) + text[i:]} {
+				want(t, "word", all(impl.IsWord(4, told)), isSign, true)
+				checkZero(t, pathCalls(6, told, 1, 1))
+			}
+		}
+	}
+}
+
+func TestPathResultsAreNew(t *testing.T) {
+	const w = "FLFLFLFLFF"
+	for range 2 {
+		path, ok := impl.PathOf(4, w)
+		want(t, "path", all(path, ok), [][]int{{0, 0}, {1, 0}, {1, 1}, {0, 1}, {0, 0}, {1, 0}, {2, 0}}, true)
+		checkApart(t, path)
+		crossed, ok := impl.CrossedPoints(4, w)
+		want(t, "crossed", all(crossed, ok), [][]int{{0, 0}, {1, 0}}, true)
+		checkApart(t, crossed)
+		end, ok := impl.EndOf(4, w)
+		want(t, "end", all(end, ok), []int{2, 0, 0}, true)
+		end[0] = -1
+	}
+}
+
+// shareText reports whether two texts that are not empty begin in the same memory.
+func shareText(a string, b string) bool {
+	return a != "" && b != "" && unsafe.StringData(a) == unsafe.StringData(b)
+}
+
+func TestNewWords(t *testing.T) {
+	for _, w := range []string{"F", "L", "FF", "FLFLFFFL", strings.Repeat("F", 120)} {
+		repeated, _ := impl.RepeatWord(4, w, 1)
+		shifted, _ := impl.ShiftWord(4, w, 0)
+		least, _ := impl.LeastShift(4, w)
+		mirrored, _ := impl.MirrorWord(4, w)
+		back, _ := impl.BackWord(4, w)
+		short, _ := impl.ShortWord(4, w)
+		want(t, "words", all(repeated, shifted, short), w, w, w)
+		// Texts of one sign need no memory of their own: the language keeps one of each.
+		for _, told := range []string{repeated, shifted, least, mirrored, back, short} {
+			if len(w) > 1 && shareText(w, told) {
+				t.Error("a result shares memory with its word", w, told)
+			}
+		}
+	}
+}
+
+// TestSendersHaveEnded checks that no goroutine is left over from words that are followed to the end, or just up to a sign that is none.
+func TestSendersHaveEnded(t *testing.T) {
+	before := runtime.NumGoroutine()
+	for range 100 {
+		for _, w := range []string{"", "FLFL", "xFLFL", "FLxFL", "FLFLx", strings.Repeat("F", 120), "x" + strings.Repeat("F", 119)} {
+			pathCalls(4, w, 1, 1)
+		}
+	}
+	// A goroutine that has done its last act is still counted for a moment.
+	for range 1000000 {
+		if runtime.NumGoroutine() <= before {
+			return
+		}
+		runtime.Gosched()
+	}
+	t.Error("goroutines are left over", runtime.NumGoroutine()-before)
+}
+
+func TestSamePathCallsAgree(t *testing.T) {
+	for _, grid := range grids {
+		for _, w := range longWords() {
+			first := pathCalls(grid, w, 1, 1)
+			for range 5 {
+				want(t, "again", pathCalls(grid, w, 1, 1), first...)
+			}
 		}
 	}
 }
