@@ -362,3 +362,102 @@ func TestSamePathCallsAgree(t *testing.T) {
 		}
 	}
 }
+
+// tableCalls returns the results of all calls of chapter 4 with the same numbers.
+func tableCalls(points int, factor int, p int, q int) []any {
+	calls := [][]any{
+		all(impl.TimesPoint(points, factor, p)), all(impl.TimesRow(points, factor)), all(impl.TimesChords(points, factor)), all(impl.FixedPoints(points, factor)),
+		all(impl.TimesAfter(points, factor, p, q)), all(impl.CyclesOfTable(points, factor)), all(impl.DepthOfTable(points, factor)),
+		all(impl.PointsHit(points, factor)), all(impl.LinesTo(points, factor, p)), all(impl.CanBeUndone(points, factor)), all(impl.UndoFactor(points, factor)),
+		all(impl.OrderOfFactor(points, factor)), all(impl.LeastTurnOfTable(points, factor)), all(impl.TableCrossings(points, factor)), all(impl.FactorsWith(points, p)),
+	}
+	return slices.Concat(calls...)
+}
+
+// longTableCalls returns the results of the calls of chapter 4 that have two results beside the bool.
+func longTableCalls(points int, factor int, p int) []any {
+	return append(all(impl.LeadOfPoint(points, factor, p)), all(impl.LongFactors(points))...)
+}
+
+// checkLongZero checks of such results, each group of which ends with a bool, that those of failed calls are zero.
+func checkLongZero(t *testing.T, results []any) {
+	t.Helper()
+	for i := 0; i+2 < len(results); i += 3 {
+		if results[i+2] == true {
+			continue
+		}
+		for _, v := range results[i : i+2] {
+			if !reflect.ValueOf(v).IsZero() && !isEmptySlice(v) {
+				t.Error("a failed call returns", v)
+			}
+		}
+	}
+}
+
+func TestTablesAcceptAllArguments(t *testing.T) {
+	few := []int{edgeNumbers[0], -1, 0, 1, 2, 3, 31, 59, 60, 61, 1000000, 1000001, edgeNumbers[len(edgeNumbers)-1]}
+	for _, points := range edgeNumbers {
+		for _, factor := range edgeNumbers {
+			checkZero(t, tableCalls(points, factor, 0, 0))
+			for _, p := range few {
+				checkLongZero(t, longTableCalls(points, factor, p))
+			}
+		}
+	}
+	for _, points := range few {
+		for _, factor := range few {
+			for _, p := range few {
+				for _, q := range edgeNumbers {
+					checkZero(t, tableCalls(points, factor, p, q))
+				}
+			}
+		}
+	}
+}
+
+// spoilNumbers changes each number of a list and of its spare capacity.
+func spoilNumbers(list []int) {
+	list = list[:cap(list)]
+	for i := range list {
+		list[i] = -1
+	}
+}
+
+func TestTableResultsAreNew(t *testing.T) {
+	// Each result is spoilt after it was checked: a second call must not see that.
+	for range 2 {
+		row, ok := impl.TimesRow(6, 2)
+		want(t, "row", all(row, ok), []int{0, 2, 4, 0, 2, 4}, true)
+		spoilNumbers(row)
+		list, ok := impl.TimesChords(6, 2)
+		want(t, "chords", all(list, ok), chords(0, 3, 1, 2, 2, 4, 4, 5), true)
+		spoil(list, ok)
+		fixed, ok := impl.FixedPoints(6, 3)
+		want(t, "fixed", all(fixed, ok), []int{0, 3}, true)
+		spoilNumbers(fixed)
+		cycles, ok := impl.CyclesOfTable(7, 2)
+		want(t, "cycles", all(cycles, ok), [][]int{{0}, {1, 2, 4}, {3, 6, 5}}, true)
+		checkApart(t, cycles)
+		hit, ok := impl.PointsHit(6, 2)
+		want(t, "hit", all(hit, ok), []int{0, 2, 4}, true)
+		spoilNumbers(hit)
+		from, ok := impl.LinesTo(6, 2, 4)
+		want(t, "lines to", all(from, ok), []int{2, 5}, true)
+		spoilNumbers(from)
+		factors, order, ok := impl.LongFactors(7)
+		want(t, "long", all(factors, order, ok), []int{3, 5}, 6, true)
+		spoilNumbers(factors)
+		with, ok := impl.FactorsWith(6, 2)
+		want(t, "with", all(with, ok), []int{3, 5}, true)
+		spoilNumbers(with)
+	}
+}
+
+func TestSameTableCallsAgree(t *testing.T) {
+	for _, table := range [][]int{{3, 2}, {6, 2}, {7, 3}, {59, 2}, {60, 1}, {60, 7}, {60, 31}} {
+		first := append(tableCalls(table[0], table[1], 2, 999999), longTableCalls(table[0], table[1], 2)...)
+		for range 20 {
+			want(t, "again", append(tableCalls(table[0], table[1], 2, 999999), longTableCalls(table[0], table[1], 2)...), first...)
+		}
+	}
+}
