@@ -11,7 +11,7 @@ const MaxPoints = 60
 
 const (
 	minPoints = 3
-	// maxStepsTaken bounds the lines that PointAfter and TimesAfter follow.
+	// maxStepsTaken bounds the lines that PointAfter and TimesAfter follow, and the steps of gears.
 	maxStepsTaken = 1000000
 )
 

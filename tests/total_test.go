@@ -1,6 +1,7 @@
 package tests
 
 import (
+	"math"
 	"reflect"
 	"runtime"
 	"slices"
@@ -458,6 +459,133 @@ func TestSameTableCallsAgree(t *testing.T) {
 		first := append(tableCalls(table[0], table[1], 2, 999999), longTableCalls(table[0], table[1], 2)...)
 		for range 20 {
 			want(t, "again", append(tableCalls(table[0], table[1], 2, 999999), longTableCalls(table[0], table[1], 2)...), first...)
+		}
+	}
+}
+
+// gearCalls returns the results of all calls of chapter 5 with the same ring, wheel and numbers that have one result beside the bool.
+func gearCalls(ring int, wheel int, p int, q int) []any {
+	calls := [][]any{
+		all(impl.PetalsOf(ring, wheel)), all(impl.RoundsOf(ring, wheel)), all(impl.SpinsOf(ring, wheel, true)), all(impl.SpinsOf(ring, wheel, false)),
+		all(impl.DoMeet(ring, wheel, p, q)), all(impl.FirstMeeting(ring, wheel, p, q)), all(impl.MeetingsOf(ring, wheel, p)), all(impl.CuspsOf(ring, wheel)),
+		all(impl.SameCusps(ring, wheel, p)), all(impl.SameCusps(ring, p, wheel)), all(impl.WheelsFor(ring, p)), all(impl.StarOfGears(ring, wheel)),
+	}
+	return slices.Concat(calls...)
+}
+
+// trainCalls returns the results of all calls of chapter 5 with a train, a list and a number that have one result beside the bool.
+func trainCalls(train []int, at []int, n int) []any {
+	calls := [][]any{
+		all(impl.TrainTeeth(train, n)), all(impl.TrainPeriod(train)), all(impl.LeastTurns(train)), all(impl.AreInGear(train, at)), all(impl.AreInGear(at, train)),
+		all(impl.AreInGear(train, train)),
+	}
+	return slices.Concat(calls...)
+}
+
+func TestGearsAcceptAllArguments(t *testing.T) {
+	few := []int{math.MinInt, -1, 0, 1, 2, 60, 299, 300, 1000001, math.MaxInt}
+	for _, ring := range gearNumbers {
+		for _, wheel := range gearNumbers {
+			for _, p := range few {
+				for _, q := range few {
+					checkZero(t, gearCalls(ring, wheel, p, q))
+				}
+			}
+			for _, step := range gearNumbers {
+				checkLongZero(t, all(impl.TeethAt(ring, wheel, step)))
+			}
+		}
+	}
+}
+
+// anyTrains returns lists of numbers, trains and others.
+func anyTrains() [][]int {
+	trains := append(slices.Clone(noTrains), farTrains...)
+	trains = append(trains, []int{0, 0}, []int{1, 1}, []int{12, 8, 16}, []int{1, 7, 1}, []int{300, 300}, []int{300, 299, 293, 289, 287, 283}, []int{1, 1, 1, 1, 1, 1})
+	for _, a := range gearNumbers {
+		for _, b := range gearNumbers {
+			trains = append(trains, []int{a, b})
+		}
+	}
+	return trains
+}
+
+func TestTrainsAcceptAllArguments(t *testing.T) {
+	for _, train := range anyTrains() {
+		for _, n := range gearNumbers {
+			checkZero(t, trainCalls(train, []int{1, 7, 1}, n))
+			checkZero(t, trainCalls(train, []int{n, 1}, n))
+			checkLongZero(t, all(impl.TrainTurns(train, n)))
+		}
+		for _, at := range noTrains {
+			checkZero(t, trainCalls(train, at, 0))
+		}
+	}
+}
+
+// numbersWithRoom returns a list with spare capacity behind it that holds numbers, and all of it.
+func numbersWithRoom(list []int) ([]int, []int) {
+	whole := append(slices.Clone(list), 5, 0, 301, 9, 1)
+	return whole[:len(list)], whole
+}
+
+func TestTrainArgumentsStay(t *testing.T) {
+	for _, told := range [][]int{nil, {12}, {12, 8}, {12, 8, 16}, {1, 7, 1}, {300, 1, 300, 1, 300, 1}, farTrains[0], farTrains[1], {1, 2, 3, 4, 5, 6, 7}} {
+		for _, teeth := range [][]int{nil, {0, 0}, {1, 7, 1}, {0, 0, 0, 0, 0, 0}, {7, 0, 7, 0, 7, 0}} {
+			train, wholeTrain := numbersWithRoom(told)
+			at, wholeAt := numbersWithRoom(teeth)
+			before := slices.Concat(wholeTrain, wholeAt)
+			for _, n := range []int{-1000, -1, 0, 1, 7, 1000, 1000000} {
+				want(t, "with room", trainCalls(train, at, n), trainCalls(told, teeth, n)...)
+				want(t, "turns with room", all(impl.TrainTurns(train, n)), all(impl.TrainTurns(told, n))...)
+			}
+			if !slices.Equal(slices.Concat(wholeTrain, wholeAt), before) {
+				t.Error("a call changes a list", before, wholeTrain, wholeAt)
+			}
+		}
+	}
+}
+
+func TestGearResultsAreNew(t *testing.T) {
+	train, whole := numbersWithRoom([]int{12, 8, 16})
+	before := slices.Clone(whole)
+	// Each result is spoilt after it was checked: a second call must not see that.
+	for range 2 {
+		meetings, ok := impl.MeetingsOf(12, 8, 5)
+		want(t, "meetings", all(meetings, ok), []int{1, 5}, true)
+		spoilNumbers(meetings)
+		cusps, ok := impl.CuspsOf(12, 8)
+		want(t, "cusps", all(cusps, ok), []int{0, 8, 4}, true)
+		spoilNumbers(cusps)
+		wheels, ok := impl.WheelsFor(12, 4)
+		want(t, "wheels", all(wheels, ok), []int{3, 9}, true)
+		spoilNumbers(wheels)
+		above, below, ok := impl.TrainTurns(train, 1)
+		want(t, "turns", all(above, below, ok), []int{1, -3, 3}, []int{1, 2, 4}, true)
+		checkApart(t, [][]int{above, below})
+		ones, same, ok := impl.TrainTurns([]int{1, 1}, 1)
+		want(t, "turns", all(ones, same, ok), []int{1, -1}, []int{1, 1}, true)
+		checkApart(t, [][]int{ones, same})
+		at, ok := impl.TrainTeeth(train, 1)
+		want(t, "teeth", all(at, ok), []int{1, 7, 1}, true)
+		spoilNumbers(at)
+		if !slices.Equal(whole, before) {
+			t.Error("a result shares memory with its train", whole)
+		}
+	}
+}
+
+func TestSameGearCallsAgree(t *testing.T) {
+	for _, gear := range [][]int{{3, 2}, {12, 8}, {60, 59}, {300, 1}, {300, 150}, {300, 299}} {
+		first := append(gearCalls(gear[0], gear[1], 2, 1), all(impl.TeethAt(gear[0], gear[1], 999999))...)
+		for range 5 {
+			want(t, "again", append(gearCalls(gear[0], gear[1], 2, 1), all(impl.TeethAt(gear[0], gear[1], 999999))...), first...)
+		}
+	}
+	for _, train := range append(someTrains()[:10], farTrains...) {
+		first := append(trainCalls(train, []int{1, 7, 1}, 999), all(impl.TrainTurns(train, 999))...)
+		for range 5 {
+			want(t, "again", append(trainCalls(train, []int{1, 7, 1}, 999), all(impl.TrainTurns(train, 999))...), first...)
 		}
 	}
 }
