@@ -281,17 +281,36 @@ func StarText(s Star) (string, bool) {
 func ParseStar(t string) (Star, bool) {
 	rest, opened := strings.CutPrefix(t, "{")
 	rest, closed := strings.CutSuffix(rest, "}")
-	left, right, parted := strings.Cut(rest, "/")
-	if !opened || !closed || !parted {
-		return Star{}, false
-	}
-	points, pointsTold := plainNumber(left)
-	step, stepTold := plainNumber(right)
+	points, step, told := numberPair(rest, "/")
 	s := Star{Points: points, Step: step}
-	if !pointsTold || !stepTold || !IsStar(s) {
+	if !opened || !closed || !told || !IsStar(s) {
 		return Star{}, false
 	}
 	return s, true
+}
+
+// numberPair reads two plain numbers with a sign between them.
+func numberPair(t string, sign string) (int, int, bool) {
+	left, right, parted := strings.Cut(t, sign)
+	first, firstTold := plainNumber(left)
+	second, secondTold := plainNumber(right)
+	if !parted || !firstTold || !secondTold {
+		return 0, 0, false
+	}
+	return first, second, true
+}
+
+// numberPairs reads pairs of plain numbers with a sign between those of a pair, and a comma between pairs.
+func numberPairs(t string, sign string) ([][2]int, bool) {
+	var pairs [][2]int
+	for _, part := range strings.Split(t, ",") {
+		first, second, ok := numberPair(part, sign)
+		if !ok {
+			return nil, false
+		}
+		pairs = append(pairs, [2]int{first, second})
+	}
+	return pairs, true
 }
 
 // plainNumber reads a number that is not less than 0.

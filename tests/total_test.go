@@ -589,3 +589,161 @@ func TestSameGearCallsAgree(t *testing.T) {
 		}
 	}
 }
+
+// threadsCalls returns the results of all calls of chapter 6 with a list and the same numbers that have one result beside the bool.
+func threadsCalls(list []impl.Thread, p int, q int) []any {
+	calls := [][]any{
+		all(impl.AreThreads(list)), all(impl.CountMeetings(list)), all(impl.MeetingsOnThread(list, p)), all(impl.EdgeThreads(list)), all(impl.EdgeCorners(list)),
+		all(impl.IsUnder(list, p, q)), all(impl.CountUnder(list)), all(impl.ScaleThreads(list, p)), all(impl.ExchangeThreads(list)),
+		all(impl.AddThread(list, impl.Thread{A: p, B: q})), all(impl.HiddenThreads(list)), all(impl.ThreadsText(list)), all(impl.ArtThreads(p)),
+	}
+	return slices.Concat(calls...)
+}
+
+// pairCalls returns the results of all calls of chapter 6 with two threads that have one result beside the bool.
+func pairCalls(s impl.Thread, other impl.Thread) []any {
+	return slices.Concat(all(impl.DoThreadsMeet(s, other)), all(impl.MeetingOf(s, other)), all(impl.DoubleTriangle(s)))
+}
+
+// checkOneZero checks of the results of one call, the last one of which is a bool, that they are zero if it failed.
+func checkOneZero(t *testing.T, results []any) {
+	t.Helper()
+	last := len(results) - 1
+	for _, v := range results[:last] {
+		if results[last] == false && !reflect.ValueOf(v).IsZero() {
+			t.Error("a failed call returns", results)
+		}
+	}
+}
+
+// anyThreads returns lists of threads, valid ones and others.
+func anyThreads() [][]impl.Thread {
+	lists := append(noThreadLists(), throughSix(), tradedThreads(), allThreads(100)[:30], allThreads(100)[9970:], threads(1, 3, 2, 2, 3, 1))
+	for _, a := range nailNumbers {
+		for _, b := range nailNumbers {
+			lists = append(lists, threads(a, b), threads(1, 1, a, b))
+		}
+	}
+	return lists
+}
+
+func TestThreadsAcceptAllArguments(t *testing.T) {
+	few := []int{math.MinInt, -1, 0, 1, 2, 29, 30, 99, 100, 101, 1<<32 + 1, math.MaxInt}
+	for _, list := range anyThreads() {
+		for _, p := range few {
+			checkOneZero(t, all(impl.HighestAt(list, p)))
+			for _, q := range few {
+				checkZero(t, threadsCalls(list, p, q))
+			}
+		}
+	}
+	for _, a := range nailNumbers {
+		for _, b := range nailNumbers {
+			s := impl.Thread{A: a, B: b}
+			for _, p := range nailNumbers {
+				checkOneZero(t, all(impl.HeightOf(s, p)))
+				for _, q := range few {
+					checkZero(t, pairCalls(s, impl.Thread{A: p, B: q}))
+				}
+			}
+		}
+	}
+}
+
+func TestThreadsTextsAcceptAllBytes(t *testing.T) {
+	const text = "1:3,2:2"
+	for b := range 256 {
+		for i := range len(text) + 1 {
+			for _, told := range []string{text[:i] + string([]byte{byte(b)}) + text[i:], text[:max(i-1, 0)] + string([]byte{byte(b)}) + text[i:]} {
+				list, ok := impl.ParseThreads(told)
+				if back, fine := impl.ThreadsText(list); ok != fine || ok && back != told || !ok && len(list) != 0 {
+					t.Errorf("%q is %v, %v", told, list, ok)
+				}
+			}
+		}
+	}
+}
+
+// threadsWithRoom returns a list with spare capacity behind it that holds threads, and all of it.
+func threadsWithRoom(list []impl.Thread) ([]impl.Thread, []impl.Thread) {
+	whole := append(slices.Clone(list), threads(100, 100, 7, 8, 0, 101)...)
+	return whole[:len(list)], whole
+}
+
+func TestThreadArgumentsStay(t *testing.T) {
+	lists := append(namedThreads(), nil, threads(2, 2, 1, 3), threads(1, 3, 1, 3), threads(0, 1), allThreads(6)[:29], allThreads(6)[:30], allThreads(6)[:31])
+	for _, told := range lists {
+		list, whole := threadsWithRoom(told)
+		before := slices.Clone(whole)
+		for _, p := range []int{-1, 0, 1, 2, 7, 29, 100, 101} {
+			for _, q := range []int{-1, 0, 1, 8, 100} {
+				want(t, "with room", threadsCalls(list, p, q), threadsCalls(told, p, q)...)
+			}
+			want(t, "highest with room", all(impl.HighestAt(list, p)), all(impl.HighestAt(told, p))...)
+		}
+		if !slices.Equal(whole, before) {
+			t.Error("a call changes its list", before, whole)
+		}
+	}
+}
+
+// spoilThreads changes each thread of a list and of its spare capacity.
+func spoilThreads(list []impl.Thread, ok bool) {
+	list = list[:cap(list)]
+	for i := range list {
+		list[i] = impl.Thread{A: -1, B: -1}
+	}
+}
+
+func TestThreadResultsAreNew(t *testing.T) {
+	told := threads(1, 3, 2, 2, 3, 1)
+	list, whole := threadsWithRoom(told)
+	before := slices.Clone(whole)
+	// Each result is spoilt after it was checked: a second call must not see that.
+	for range 2 {
+		want(t, "art", all(impl.ArtThreads(3)), told, true)
+		spoilThreads(impl.ArtThreads(3))
+		want(t, "scale", all(impl.ScaleThreads(list, 1)), told, true)
+		spoilThreads(impl.ScaleThreads(list, 1))
+		want(t, "exchange", all(impl.ExchangeThreads(list)), told, true)
+		spoilThreads(impl.ExchangeThreads(list))
+		spoilThreads(impl.AddThread(list, impl.Thread{A: 1, B: 1}))
+		spoilThreads(impl.AddThread(list, impl.Thread{A: 2, B: 9}))
+		spoilThreads(impl.AddThread(list, impl.Thread{A: 100, B: 100}))
+		want(t, "parse", all(impl.ParseThreads("1:3,2:2,3:1")), told, true)
+		spoilThreads(impl.ParseThreads("1:3,2:2,3:1"))
+		if !slices.Equal(whole, before) {
+			t.Error("a result shares memory with its list", whole)
+		}
+	}
+}
+
+func TestThreadListsAreApart(t *testing.T) {
+	list := threads(1, 3, 2, 2, 3, 1)
+	for range 2 {
+		meeting, ok := impl.MeetingOf(list[0], list[1])
+		want(t, "meeting", all(meeting, ok), []int{1, 2, 3, 2}, true)
+		spoilNumbers(meeting)
+		on, ok := impl.MeetingsOnThread(list, 0)
+		want(t, "on a thread", all(on, ok), []int{1, 2}, true)
+		spoilNumbers(on)
+		edge, ok := impl.EdgeThreads(list)
+		want(t, "edge", all(edge, ok), []int{0, 1, 2}, true)
+		spoilNumbers(edge)
+		corners, ok := impl.EdgeCorners(list)
+		want(t, "corners", all(corners, ok), [][]int{{1, 2, 3, 2}, {3, 2, 1, 2}}, true)
+		checkApart(t, corners)
+		hidden, ok := impl.HiddenThreads(threads(1, 1, 2, 2))
+		want(t, "hidden", all(hidden, ok), []int{0}, true)
+		spoilNumbers(hidden)
+	}
+}
+
+func TestSameThreadCallsAgree(t *testing.T) {
+	for _, list := range [][]impl.Thread{throughSix(), tradedThreads(), threads(1, 3, 2, 2, 3, 1), allThreads(100)[:30], fewNails(1, 50, 100)} {
+		first := append(threadsCalls(list, 2, 1), all(impl.HighestAt(list, 2))...)
+		for range 20 {
+			want(t, "again", append(threadsCalls(list, 2, 1), all(impl.HighestAt(list, 2))...), first...)
+		}
+	}
+}
