@@ -747,3 +747,101 @@ func TestSameThreadCallsAgree(t *testing.T) {
 		}
 	}
 }
+
+// loopCalls returns the results of all calls of chapter 7 with the same texts and numbers.
+func loopCalls(w string, a string, b string, p int, q int) []any {
+	calls := [][]any{
+		all(impl.IsLoop(w)), all(impl.CountLoopCrossings(w)), all(impl.AreInterlaced(w, a, b)), all(impl.InterlacedWith(w, a)), all(impl.IsEvenLoop(w)),
+		all(impl.CanBeDrawn(w)), all(impl.TurnLoop(w, p)), all(impl.BackLoop(w)), all(impl.FirstLoop(w)), all(impl.SameLoops(w, a)), all(impl.SameLoops(a, w)),
+		all(impl.DropCrossing(w, a)), all(impl.JoinLoops(w, a)), all(impl.JoinLoops(b, w)), all(impl.CurlsOf(w)), all(impl.IsOneLoop(w)), all(impl.CountLoops(p)),
+		all(impl.AllLoops(p)), all(impl.CountDrawn(p)), all(impl.LoopOfRank(p, q)), all(impl.RankOfLoop(w)),
+	}
+	return slices.Concat(calls...)
+}
+
+func TestLoopsAcceptAllArguments(t *testing.T) {
+	texts := slices.Concat(noLoops(), namedLoops(), noLetters(8), []string{"", "aa", "abab", "abcabc"})
+	for _, w := range texts {
+		for _, a := range texts {
+			checkZero(t, loopCalls(w, a, "a", 0, 0))
+			checkZero(t, loopCalls(w, "a", a, 1, 1))
+		}
+		for _, p := range []int{math.MinInt, -1, 8, 15, 16, math.MaxInt} {
+			checkZero(t, loopCalls(w, "a", "b", p, 1))
+		}
+	}
+	for _, p := range loopNumbers {
+		for _, q := range loopNumbers {
+			checkZero(t, loopCalls("abcabc", "a", "b", p, q))
+		}
+	}
+}
+
+func TestLoopsAcceptAllBytes(t *testing.T) {
+	const text = "abcabc"
+	others := map[string]string{"a": "bc", "b": "ac", "c": "ab"}
+	for b := range 256 {
+		sign := string([]byte{byte(b)})
+		want(t, "letter", all(impl.InterlacedWith(text, sign)), others[sign], others[sign] != "")
+		for i := range len(text) + 1 {
+			want(t, "one sign more", all(impl.IsLoop(text[:i]+sign+text[i:])), false)
+			// Just the next letter may come, behind those before it.
+			want(t, "two signs more", all(impl.IsLoop(text[:i]+sign+sign+text[i:])), b == 'd' && i >= 3)
+			checkZero(t, loopCalls(text[:i]+sign+text[i:], sign, "a", 1, 1))
+		}
+		for i := range text {
+			want(t, "another sign", all(impl.IsLoop(text[:i]+sign+text[i+1:])), sign == text[i:i+1])
+		}
+	}
+}
+
+func TestNewLoops(t *testing.T) {
+	for _, w := range []string{"aa", "aabb", "abcabc", "aabbccddeeffgghh", "abcdefghabcdefgh"} {
+		turned, _ := impl.TurnLoop(w, 0)
+		back, _ := impl.BackLoop(w)
+		first, _ := impl.FirstLoop(w)
+		before, _ := impl.JoinLoops(w, "")
+		behind, _ := impl.JoinLoops("", w)
+		want(t, "loops", all(turned, back, first, before, behind), w, w, w, w, w)
+		for _, told := range []string{turned, back, first, before, behind} {
+			if shareText(w, told) {
+				t.Error("a result shares memory with its loop", w)
+			}
+		}
+	}
+}
+
+func TestLoopListsAreNew(t *testing.T) {
+	// Each list is spoilt after it was checked: a second call must not see that.
+	for range 2 {
+		for crossings := range 5 {
+			list, ok := impl.AllLoops(crossings)
+			want(t, "loops", all(list, ok), loopsOf(crossings), true)
+			for i := range list {
+				list[i] = "x"
+			}
+		}
+	}
+}
+
+func TestLoopArgumentsStay(t *testing.T) {
+	for _, w := range append(noLoops(), namedLoops()...) {
+		// The test keeps the memory of these texts itself, so that it sees what a call writes into them or behind them.
+		memory := []byte(w + "aabb")
+		text := unsafe.String(unsafe.SliceData(memory), len(w))
+		letter := unsafe.String(unsafe.SliceData(memory), 1)
+		want(t, "with room", loopCalls(text, letter, letter, 1, 1), loopCalls(w, w[:1], w[:1], 1, 1)...)
+		if string(memory) != w+"aabb" {
+			t.Error("a call changes a text", shortened(w))
+		}
+	}
+}
+
+func TestSameLoopCallsAgree(t *testing.T) {
+	for _, w := range append(namedLoops(), "", "aa", "abab", "abcabc", "ba") {
+		first := loopCalls(w, "a", "b", 4, 104)
+		for range 10 {
+			want(t, "again", loopCalls(w, "a", "b", 4, 104), first...)
+		}
+	}
+}
