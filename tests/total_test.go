@@ -845,3 +845,98 @@ func TestSameLoopCallsAgree(t *testing.T) {
 		}
 	}
 }
+
+// regionCalls returns the results of all calls of chapter 8 with a list and the same numbers.
+func regionCalls(points int, list []impl.Chord, p int, q int) []any {
+	calls := [][]any{
+		all(impl.RegionsOf(points, list)), all(impl.RegionsOfStar(impl.Star{Points: points, Step: p})), all(impl.MostRegions(points)),
+		all(impl.PiecesOfChord(points, list, p)), all(impl.CountPieces(points, list)), all(impl.ArcsParted(points, list, p, q)), all(impl.ShadesOfArcs(points, list)),
+		all(impl.PlaneRegions(points, list)), all(impl.RegionSizes(points, list)), all(impl.RegionOfArc(points, list, p)), all(impl.NextRegions(points, list)),
+		all(impl.EndRegions(points, list)), all(impl.FanOf(points, p)), all(impl.LeavesTriangles(points, list)), all(impl.CountTriangled(points)),
+		all(impl.EarsOf(points, list)), all(impl.FlipDiagonal(points, list, p)),
+	}
+	return slices.Concat(calls...)
+}
+
+func TestRegionsAcceptAllArguments(t *testing.T) {
+	few := []int{math.MinInt, -1, 0, 1, 3, 39, 40, 42, 43, 59, 60, 1 << 32, math.MaxInt}
+	sets := append(anyLists(), fan(41), plainFan(43, 0), plainFan(44, 0), zigzag(43), arcChords(40), crossedByMany())
+	for _, points := range []int{math.MinInt, -1, 0, 2, 3, 4, 5, 20, 21, 40, 43, 44, 60, 61, 1<<32 + 5, math.MaxInt} {
+		for _, list := range sets {
+			for _, p := range few {
+				checkZero(t, regionCalls(points, list, p, 1))
+			}
+		}
+		for _, p := range regionNumbers {
+			for _, q := range regionNumbers {
+				checkZero(t, regionCalls(points, chords(0, 2, 2, 4), p, q))
+			}
+		}
+	}
+}
+
+func TestRegionArgumentsStay(t *testing.T) {
+	lists := [][]impl.Chord{nil, chords(0, 2, 1, 3), chords(0, 2, 2, 4), chords(0, 4, 1, 3), plainFan(43, 0), zigzag(43), zigzag(6), halves(30), fan(40), arcChords(40), chords(0, 2, 0, 1)}
+	for _, told := range lists {
+		list, whole := withRoom(told)
+		before := slices.Clone(whole)
+		for _, points := range []int{2, 4, 5, 6, 40, 43, 60} {
+			for _, p := range []int{-1, 0, 1, 2, 4, 38, 39, 40, 59, 60} {
+				want(t, "with room", regionCalls(points, list, p, 1), regionCalls(points, told, p, 1)...)
+			}
+		}
+		if !slices.Equal(whole, before) {
+			t.Error("a call changes its list", before, whole)
+		}
+	}
+}
+
+func TestRegionResultsAreNew(t *testing.T) {
+	list, whole := withRoom(chords(0, 2, 2, 4))
+	before := slices.Clone(whole)
+	// Each result is spoilt after it was checked: a second call must not see that.
+	for range 2 {
+		regions, ok := impl.PlaneRegions(5, list)
+		want(t, "regions", all(regions, ok), [][]int{{0, 1, 2}, {0, 2, 4}, {2, 3, 4}}, true)
+		checkApart(t, regions)
+		sizes, ok := impl.RegionSizes(5, list)
+		want(t, "sizes", all(sizes, ok), []int{3, 3, 3}, true)
+		spoilNumbers(sizes)
+		pairs, ok := impl.NextRegions(5, list)
+		want(t, "next", all(pairs, ok), [][]int{{0, 1}, {1, 2}}, true)
+		checkApart(t, pairs)
+		ends, ok := impl.EndRegions(5, list)
+		want(t, "ends", all(ends, ok), []int{0, 2}, true)
+		spoilNumbers(ends)
+		ears, ok := impl.EarsOf(5, list)
+		want(t, "ears", all(ears, ok), []int{1, 3}, true)
+		spoilNumbers(ears)
+		want(t, "fan", all(impl.FanOf(5, 2)), chords(0, 2, 2, 4), true)
+		spoil(impl.FanOf(5, 2))
+		want(t, "flip", all(impl.FlipDiagonal(5, list, 1)), chords(0, 2, 0, 3), true)
+		spoil(impl.FlipDiagonal(5, list, 1))
+		if !slices.Equal(whole, before) {
+			t.Error("a result shares memory with its list", whole)
+		}
+	}
+}
+
+func TestRegionListsAreApart(t *testing.T) {
+	for _, list := range append(namedPlane(40), nil, plainFan(40, 0), zigzag(40)) {
+		regions, _ := impl.PlaneRegions(40, list)
+		told, _ := plainRegions(40, list)
+		want(t, "regions", all(regions), told)
+		checkApart(t, regions)
+		pairs, _ := impl.NextRegions(40, list)
+		checkApart(t, pairs)
+	}
+}
+
+func TestSameRegionCallsAgree(t *testing.T) {
+	for _, list := range [][]impl.Chord{nil, chords(0, 4, 1, 3), fan(40), plainFan(43, 0), zigzag(43), halves(12), arcChords(40)} {
+		first := append(regionCalls(43, list, 3, 29), regionCalls(20, list, 0, 19)...)
+		for range 20 {
+			want(t, "again", append(regionCalls(43, list, 3, 29), regionCalls(20, list, 0, 19)...), first...)
+		}
+	}
+}
