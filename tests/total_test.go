@@ -940,3 +940,128 @@ func TestSameRegionCallsAgree(t *testing.T) {
 		}
 	}
 }
+
+// puzzleCalls returns the results of all calls of chapter 9 with a puzzle, a clue, a star and the same numbers that have one result beside the bool.
+func puzzleCalls(p impl.Puzzle, c impl.Clue, s impl.Star, m int, n int) []any {
+	calls := [][]any{
+		all(impl.IsClue(c)), all(impl.IsPuzzle(p)), all(impl.DoesFit(c, s)), all(impl.Solutions(p)), all(impl.CountSolutions(p)), all(impl.FirstSolution(p)),
+		all(impl.IsSolved(p)), all(impl.NeedlessClues(p)), all(impl.DropClue(p, m)), all(impl.AddClue(p, c)), all(impl.LeftByClues(p)), all(impl.BestClue(p)),
+		all(impl.HarderPuzzle(p)), all(impl.MakePuzzle(s, m, n)), all(impl.PuzzleText(p)),
+	}
+	return slices.Concat(calls...)
+}
+
+func TestPuzzlesAcceptAllArguments(t *testing.T) {
+	few := []int{math.MinInt, -1, 0, 1, 3, 5, 6, 7, 14, 15, 9999, 10000, math.MaxInt}
+	five, line := impl.Star{Points: 5, Step: 2}, impl.Clue{Kind: 4, A: 0, B: 2}
+	for _, kind := range few {
+		for _, a := range few {
+			for _, b := range few {
+				c := impl.Clue{Kind: kind, A: a, B: b}
+				for _, list := range [][]impl.Clue{{c}, {line, c}, {c, c, c, c, c, c}, slices.Repeat([]impl.Clue{c}, 7)} {
+					checkZero(t, puzzleCalls(puzzleOf(list), c, five, a, b))
+					checkLongZero(t, all(impl.SureStar(puzzleOf(list))))
+				}
+				checkZero(t, puzzleCalls(impl.Puzzle{}, c, impl.Star{Points: a, Step: b}, kind, a))
+				checkZero(t, puzzleCalls(impl.Puzzle{Clues: []impl.Clue{}}, line, impl.Star{Points: kind, Step: a}, b, kind))
+			}
+		}
+	}
+	for _, p := range append(noPuzzles(), puzzleOf(make([]impl.Clue, 1<<20)), puzzleOf(slices.Repeat([]impl.Clue{line}, 1<<20))) {
+		checkZero(t, puzzleCalls(p, line, five, 0, 0))
+		checkLongZero(t, all(impl.SureStar(p)))
+	}
+}
+
+func TestPuzzleTextsAcceptAllBytes(t *testing.T) {
+	const text = "0.5.0,4.0.2"
+	for b := range 256 {
+		for i := range len(text) + 1 {
+			for _, told := range []string{text[:i] + string([]byte{byte(b)}) + text[i:], text[:max(i-1, 0)] + string([]byte{byte(b)}) + text[i:]} {
+				p, ok := impl.ParsePuzzle(told)
+				if back, fine := impl.PuzzleText(p); ok && (!fine || back != told) || !ok && len(p.Clues) != 0 {
+					t.Errorf("%q is %v, %v", told, p, ok)
+				}
+			}
+		}
+	}
+}
+
+// puzzleWithRoom returns a puzzle with spare capacity behind its clues that holds clues, and all of them.
+func puzzleWithRoom(list []impl.Clue) (impl.Puzzle, []impl.Clue) {
+	whole := append(slices.Clone(list), clues(0, 6, 0, 9, 9, 9, 1, 1, 0, 4, 2, 4)...)
+	return puzzleOf(whole[:len(list)]), whole
+}
+
+func TestPuzzleArgumentsStay(t *testing.T) {
+	lists := append(namedPuzzles(), clues(0, 2, 0), clues(0, 5, 0, 6, 1, 0), slices.Repeat(clues(0, 5, 0), 7), slices.Repeat(clues(1, 7, 0), 5))
+	for _, told := range lists {
+		p, whole := puzzleWithRoom(told)
+		before := slices.Clone(whole)
+		for n := -1; n <= 7; n++ {
+			for _, c := range clues(4, 0, 2, 0, 2, 0) {
+				s := impl.Star{Points: 5, Step: 2}
+				want(t, "with room", puzzleCalls(p, c, s, n, 1), puzzleCalls(puzzleOf(slices.Clone(told)), c, s, n, 1)...)
+			}
+		}
+		want(t, "sure with room", all(impl.SureStar(p)), all(impl.SureStar(puzzleOf(told)))...)
+		if !slices.Equal(whole, before) {
+			t.Error("a call changes its puzzle", before, whole)
+		}
+	}
+}
+
+// spoilClues changes each clue of a puzzle and of its spare capacity.
+func spoilClues(p impl.Puzzle, ok bool) {
+	list := p.Clues[:cap(p.Clues)]
+	for i := range list {
+		list[i] = impl.Clue{Kind: -1, A: -1, B: -1}
+	}
+}
+
+func TestPuzzleResultsAreNew(t *testing.T) {
+	for _, list := range append(namedPuzzles(), clues(0, 5, 0), slices.Repeat(clues(1, 7, 0), 5), clues(1, 7, 0)) {
+		p, whole := puzzleWithRoom(list)
+		before := slices.Clone(whole)
+		// Each result is spoilt: the puzzle and its spare capacity must not show that.
+		for k := range list {
+			spoilClues(impl.DropClue(p, k))
+		}
+		spoilClues(impl.AddClue(p, impl.Clue{Kind: 0, A: 7}))
+		spoilClues(impl.HarderPuzzle(p))
+		if !slices.Equal(whole, before) {
+			t.Error("a result shares memory with its puzzle", before, whole)
+		}
+	}
+	p, _ := puzzleWithRoom(clues(0, 5, 0))
+	first, _ := impl.AddClue(p, impl.Clue{Kind: 0, A: 7})
+	other, _ := impl.AddClue(p, impl.Clue{Kind: 0, A: 8})
+	want(t, "added to one puzzle", all(first.Clues, other.Clues), clues(0, 5, 0, 0, 7, 0), clues(0, 5, 0, 0, 8, 0))
+	// A second call must not see that the results of the first one are spoilt.
+	for range 2 {
+		stars, ok := impl.Solutions(puzzle(0, 3, 0))
+		want(t, "solutions", all(stars, ok), []impl.Star{{Points: 3, Step: 1}, {Points: 3, Step: 2}}, true)
+		stars[0], stars[1] = impl.Star{}, impl.Star{}
+		needless, ok := impl.NeedlessClues(puzzle(0, 5, 0, 0, 5, 0))
+		want(t, "needless", all(needless, ok), []int{0, 1}, true)
+		spoilNumbers(needless)
+		left, ok := impl.LeftByClues(puzzle(0, 5, 0, 4, 0, 2))
+		want(t, "left", all(left, ok), []int{90, 4, 1}, true)
+		spoilNumbers(left)
+		made := impl.Star{Points: 3, Step: 1}
+		want(t, "made", inPuzzle(impl.MakePuzzle(made, 2, 1)), clues(2, 1, 0, 4, 1, 2), true)
+		spoilClues(impl.MakePuzzle(made, 2, 1))
+		want(t, "parse", inPuzzle(impl.ParsePuzzle("0.5.0,4.0.2")), clues(0, 5, 0, 4, 0, 2), true)
+		spoilClues(impl.ParsePuzzle("0.5.0,4.0.2"))
+	}
+}
+
+func TestSamePuzzleCallsAgree(t *testing.T) {
+	for _, list := range namedPuzzles() {
+		p, c, s := puzzleOf(list), impl.Clue{Kind: 4, A: 0, B: 2}, impl.Star{Points: 14, Step: 6}
+		first := append(puzzleCalls(p, c, s, 3, 77), all(impl.SureStar(p))...)
+		for range 10 {
+			want(t, "again", append(puzzleCalls(p, c, s, 3, 77), all(impl.SureStar(p))...), first...)
+		}
+	}
+}
