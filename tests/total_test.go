@@ -343,6 +343,12 @@ func TestSendersHaveEnded(t *testing.T) {
 			pathCalls(4, w, 1, 1)
 		}
 	}
+	wantNoneLeftOver(t, before)
+}
+
+// wantNoneLeftOver checks that there are not more goroutines than before.
+func wantNoneLeftOver(t *testing.T, before int) {
+	t.Helper()
 	// A goroutine that has done its last act is still counted for a moment.
 	for range 1000000 {
 		if runtime.NumGoroutine() <= before {
@@ -1062,6 +1068,149 @@ func TestSamePuzzleCallsAgree(t *testing.T) {
 		first := append(puzzleCalls(p, c, s, 3, 77), all(impl.SureStar(p))...)
 		for range 10 {
 			want(t, "again", append(puzzleCalls(p, c, s, 3, 77), all(impl.SureStar(p))...), first...)
+		}
+	}
+}
+
+// scriptCalls returns the results of all calls of chapter 10 with a text that is a script, or none.
+func scriptCalls(s string) []any {
+	return slices.Concat(all(impl.RunScript(s)), all(impl.DeskAfter(s)), all(impl.FailedLines(s)))
+}
+
+func TestConsoleAcceptsAllArguments(t *testing.T) {
+	lines := append(notLines(), someLines()...)
+	lines = append(lines, "\n", "show\n", strings.Repeat("x", 3001), strings.Repeat("\n", 100000), strings.Repeat("word ", 1<<18), "word "+strings.Repeat("F", 1<<20), "step "+strings.Repeat("9", 1<<20))
+	for _, d := range append(noDesks(), desk(5, 2, 4, "FL"), desk(60, 30, 6, ""), desk(5, 2, 4, strings.Repeat("x", 1<<20)), desk(5, 2, 6, strings.Repeat("F", 1<<20))) {
+		for _, line := range lines {
+			checkLongZero(t, all(impl.DeskLine(d, line)))
+		}
+	}
+	for _, line := range lines {
+		for _, s := range []string{line, line + "\n", "show\n" + line, "show\n" + line + "\n", strings.Repeat(line+"\n", 50), strings.Repeat(line+"\n", 51)} {
+			checkZero(t, scriptCalls(s))
+		}
+	}
+	for _, points := range deskNumbers {
+		for _, step := range deskNumbers {
+			for _, grid := range deskNumbers {
+				d := desk(points, step, grid, "FLFL")
+				for _, line := range []string{"tell", "step 3", "times 2", "to 0 1", "strings"} {
+					after, reply, ok := impl.DeskLine(d, line)
+					checkLongZero(t, all(after, reply, ok))
+					want(t, "desk", all(impl.IsDesk(d)), ok)
+				}
+			}
+		}
+	}
+}
+
+func TestLinesAcceptAllBytes(t *testing.T) {
+	for _, line := range []string{"show", "star {5/2}", "step 3", "word FLR", "to 0 1", "draw abab", "loop 2 1"} {
+		for b := range 256 {
+			for i := range len(line) + 1 {
+				for _, told := range []string{line[:i] + string([]byte{byte(b)}) + line[i:], line[:max(i-1, 0)] + string([]byte{byte(b)}) + line[i:]} {
+					if b != '\n' {
+						checkLine(t, impl.FirstDesk(), told)
+						checkScript(t, []string{told, "tell"})
+						continue
+					}
+					want(t, "a newline", all(impl.DeskLine(impl.FirstDesk(), told)), impl.Desk{}, "", false)
+					checkNoScript(t, told+"show")
+					checkScript(t, strings.Split(told, "\n"))
+				}
+			}
+		}
+	}
+}
+
+func TestNewDesks(t *testing.T) {
+	for _, w := range []string{"FL", "FFLL", "FFRRF", strings.Repeat("FL", 60)} {
+		line, script := "word "+w, "word "+w+"\ntell\n"
+		for _, asked := range []string{"show", "tell", "fly", "step 0", "step 1", "grid 6", "grid 5", "times 1", "times 0", "shift 0", "short", "end", line} {
+			after, reply, ok := impl.DeskLine(desk(5, 2, 4, w), asked)
+			want(t, "the same word", all(after.Word, ok), w, true)
+			for _, told := range []string{after.Word, reply} {
+				if shareText(told, w) || shareText(told, line[5:]) {
+					t.Error("a result shares memory with a desk or a line", asked, w)
+				}
+			}
+			if shareText(after.Word, reply) {
+				t.Error("a desk and a reply share memory", asked, w)
+			}
+		}
+		d, isDesk := impl.DeskAfter(script)
+		replies, areReplies := impl.RunScript(script)
+		want(t, "words", all(d.Word, isDesk, replies, areReplies), w, true, []string{w, w}, true)
+		for _, told := range append(replies, d.Word) {
+			if shareText(told, script[5:]) {
+				t.Error("a result shares memory with its script", w)
+			}
+		}
+		if shareText(replies[0], replies[1]) {
+			t.Error("replies share memory", w)
+		}
+	}
+}
+
+func TestConsoleResultsAreNew(t *testing.T) {
+	const script = "strings\nfly\nstep 3\nstep 5\nfirst abba\n"
+	// Each result is spoilt after it was checked: a second call must not see that.
+	for range 2 {
+		replies, ok := impl.RunScript(script)
+		want(t, "replies", all(replies, ok), []string{"0,2,4,1,3", "what", "{5/3}", "no", "aabb"}, true)
+		for i := range replies {
+			replies[i] = "x"
+		}
+		failed, ok := impl.FailedLines(script)
+		want(t, "failed", all(failed, ok), []int{2, 4}, true)
+		spoilNumbers(failed)
+		d, ok := impl.DeskAfter("")
+		want(t, "desk", all(d, ok), impl.FirstDesk(), true)
+		d.Star.Step, d.Grid, d.Word = 4, 6, ""
+		want(t, "first", all(impl.FirstDesk()), desk(5, 2, 4, "FL"))
+	}
+}
+
+func TestConsoleArgumentsStay(t *testing.T) {
+	texts := append(someLines(), "", "show\n", "word FLLRF\nmirror\ntell\n", "show\nfly\nstep 0\n", "show\ntell", "word "+strings.Repeat("F", 120), strings.Repeat("\n", 50), strings.Repeat("\n", 51))
+	for _, s := range texts {
+		for _, w := range []string{"", "FL", "FLx", strings.Repeat("F", 121)} {
+			// The test keeps the memory of these texts itself, so that it sees what a call writes into them or behind them.
+			memory := []byte(s + "\nshow\n" + w + "FLR")
+			text := unsafe.String(unsafe.SliceData(memory), len(s))
+			word := unsafe.String(&memory[len(s)+6], len(w))
+			want(t, "with room", scriptCalls(text), scriptCalls(s)...)
+			want(t, "with room", all(impl.DeskLine(desk(5, 2, 4, word), text)), all(impl.DeskLine(desk(5, 2, 4, w), s))...)
+			if string(memory) != s+"\nshow\n"+w+"FLR" {
+				t.Error("a call changes a text", shortened(s), shortened(w))
+			}
+		}
+	}
+}
+
+func TestScriptsLeaveNoSenders(t *testing.T) {
+	before := runtime.NumGoroutine()
+	for range 100 {
+		for _, line := range []string{"word FLFL", "word FLxFL", "word " + strings.Repeat("F", 121), "times 60", "times 61", "shift 1", "shift 2", "points", "close", "short", "fly"} {
+			want(t, "line", all(impl.IsDesk(desk(5, 2, 4, "FLx"))), false)
+			checkZero(t, scriptCalls(line+"\n"))
+		}
+	}
+	wantNoneLeftOver(t, before)
+}
+
+func TestSameConsoleCallsAgree(t *testing.T) {
+	script := strings.Join(someLines()[:50], "\n") + "\n"
+	first := scriptCalls(script)
+	for range 50 {
+		want(t, "again", scriptCalls(script), first...)
+	}
+	for _, d := range someDesks() {
+		for _, line := range someLines() {
+			told := all(impl.DeskLine(d, line))
+			for range 5 {
+				want(t, "again", all(impl.DeskLine(d, line)), told...)
+			}
 		}
 	}
 }
